@@ -888,9 +888,8 @@ func fill(e api.Expr) {
 	}
 }
 
-// lists are where the lists of e lie, from the first byte to behind the last one of their spare room.
-func lists(e api.Expr) [][2]uintptr {
-	var l [][2]uintptr
+// lists adds where the lists of e lie, from the first byte to behind the last one of their spare room, to l.
+func lists(l [][2]uintptr, e api.Expr) [][2]uintptr {
 	if cap(e.Refs) > 0 {
 		from := uintptr(unsafe.Pointer(unsafe.SliceData(e.Refs)))
 		l = append(l, [2]uintptr{from, from + uintptr(cap(e.Refs))*unsafe.Sizeof(api.Ref{})})
@@ -900,7 +899,7 @@ func lists(e api.Expr) [][2]uintptr {
 		l = append(l, [2]uintptr{from, from + uintptr(cap(e.Kids))*unsafe.Sizeof(api.Expr{})})
 	}
 	for _, kid := range e.Kids {
-		l = append(l, lists(kid)...)
+		l = lists(l, kid)
 	}
 	return l
 }
@@ -908,7 +907,7 @@ func lists(e api.Expr) [][2]uintptr {
 // checkMemory asks whether the lists of an answer are its own, each of them.
 func checkMemory(t *testing.T, what string, e, answer api.Expr) {
 	t.Helper()
-	l := lists(answer)
+	l := lists(nil, answer)
 	slices.SortFunc(l, func(a, b [2]uintptr) int { return int(a[0]) - int(b[0]) })
 	for i := 1; i < len(l); i++ {
 		if l[i][0] < l[i-1][1] {
