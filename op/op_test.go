@@ -296,8 +296,28 @@ func TestRectanglesThatMayNotBe(t *testing.T) {
 	checkMay(t, format(1), false)
 	checkMay(t, api.Op{Kind: api.OFormat, Sheet: here, Rects: []api.Rect{}, Format: 1}, false)
 	checkMay(t, format(0), false)
-	for _, r := range []api.Rect{rect(1<<42-1, 0, 1<<42, 1), rect(0, 1<<42-1, 1, 1<<42), rect(1<<42-16, 1<<42-16, 1<<42, 1<<42), rect(1<<41, 1<<41, 1<<41+1, 1<<41+1)} {
+}
+
+// The last line that a sheet has is 2^41 - 1, though region knows rectangles of lines beyond it.
+func TestRectanglesBeyondTheLastLine(t *testing.T) {
+	const most = 1 << 41
+	for _, r := range []api.Rect{rect(most-1, 0, most, 1), rect(0, most-1, 1, most), rect(most-16, most-16, most, most), rect(most-256, 3, most, 4), rect(3, most-256, 4, most)} {
 		checkMay(t, format(1, r), true)
+	}
+	checkMay(t, format(1, rect(0, 0, 1, 1), rect(0, most-1, 1, most), rect(2, 0, 3, 1), rect(most-1, most-1, most, most)), true)
+	for _, r := range []api.Rect{
+		rect(most, 0, most+1, 1), rect(0, most, 1, most+1), rect(most-1, 0, most+1, 1), rect(0, most-1, 1, most+1), rect(most, most, most+1, most+1),
+		rect(most-15, most-16, most+1, most), rect(most-16, most-15, most, most+1), rect(2*most-1, 0, 2*most, 1), rect(0, 2*most-1, 1, 2*most), rect(2*most-16, 2*most-16, 2*most, 2*most),
+	} {
+		checkMay(t, format(1, r), false)
+		checkMay(t, format(0, r), false)
+	}
+	// One of several, at each place.
+	for _, rs := range [][]api.Rect{
+		{rect(0, most, 1, most+1), rect(2, 0, 3, 1)}, {rect(0, 0, 1, 1), rect(0, most, 1, most+1), rect(2, 0, 3, 1)}, {rect(0, 0, 1, 1), rect(2, 0, 3, 1), rect(most, 0, most+1, 1)},
+		append(spots(255), rect(most, 0, most+1, 1)),
+	} {
+		checkMay(t, format(1, rs...), false)
 	}
 }
 
@@ -551,7 +571,7 @@ func TestLinesOfEdits(t *testing.T) {
 }
 
 func TestRectanglesOfEdits(t *testing.T) {
-	for _, n := range []int64{1, 2, 1<<40 - 1, 1 << 40, 1<<40 + 1, 1<<40 + 2, 1 << 41, 1<<41 + 1, 1 << 42} {
+	for _, n := range []int64{1, 2, 1<<40 - 1, 1 << 40, 1<<40 + 1, 1<<40 + 2, 1<<41 - 1, 1 << 41} {
 		want := n <= 1<<40
 		for _, rs := range [][]api.Rect{
 			{rect(n-1, 0, n, 1)}, {rect(0, n-1, 1, n)}, {rect(n-1, n-1, n, n)}, {rect(max(n-16, 0), max(n-16, 0), n, n)},
