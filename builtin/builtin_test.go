@@ -197,9 +197,32 @@ func TestAndOrNot(t *testing.T) {
 		checkCalls(t, []callCase{
 			{name, each("TRUE", "FALSE", "x"), "#VALUE!"}, {name, each("x", "TRUE", "FALSE"), "#VALUE!"}, {name, each("'", "TRUE"), "#VALUE!"},
 			{name, each("TRUE", "FALSE", "#NUM!"), "#NUM!"}, {name, each("#NUM!", "TRUE", "#DIV/0!", "FALSE", "#N/A"), "#DIV/0!"},
-			{name, each("x", "#DIV/0!"), "#DIV/0!"}, {name, each("#DIV/0!", "x"), "#DIV/0!"}, {name, each("x", "#N/A"), "#N/A"}, {name, each("#N/A", "x"), "#N/A"},
+			{name, each("x", "#DIV/0!"), "#DIV/0!"}, {name, each("#DIV/0!", "x"), "#DIV/0!"}, {name, each("x", "#N/A"), "#VALUE!"}, {name, each("#N/A", "x"), "#VALUE!"},
 			{name, nil, "#VALUE!"},
 		})
+	}
+}
+
+// A text that is no truth counts as #VALUE! among the errors beside it: of all of them the least is the answer, wherever it stands.
+func TestLeastErrorOfTruths(t *testing.T) {
+	for _, name := range []string{"AND", "OR"} {
+		for _, none := range append(vals("x", "'", "'=A1", "'true", "'0", "'#REF!", letters(200)), barred()...) {
+			for err := 1; err <= 7; err++ {
+				want := failure(min(err, api.EValue))
+				for k, vs := range [][]api.Value{
+					{none, failure(err)}, {failure(err), none}, {none, failure(7), failure(err)}, {failure(err), failure(7), none},
+					{truth(true), truth(false), none, {}, failure(err), none}, {failure(err), truth(false), truth(true), none, truth(true)},
+				} {
+					var args []Arg
+					for _, v := range vs {
+						args = append(args, just(v))
+					}
+					if got := Call(name, args...); got != want {
+						t.Errorf("P12.1: case %d, %s of %s: %s; want %s", k, name, told(args), told(got), told(want))
+					}
+				}
+			}
+		}
 	}
 }
 

@@ -101,20 +101,22 @@ func modelIf(vs []api.Value) api.Value {
 }
 
 func modelTruths(name string, vs []api.Value) api.Value {
-	trues := 0
+	trues, least := 0, 8
 	for _, v := range vs {
 		b, err := value.Truth(v)
 		if err != 0 {
-			return failure(err)
+			least = min(least, err)
 		}
 		if b {
 			trues++
 		}
 	}
-	switch name {
-	case "AND":
+	switch {
+	case least < 8:
+		return failure(least)
+	case name == "AND":
 		return truth(trues == len(vs))
-	case "OR":
+	case name == "OR":
 		return truth(trues > 0)
 	}
 	return truth(trues == 0)
@@ -128,10 +130,10 @@ func modelSingle(name string, vs []api.Value) api.Value {
 		return truth(err != 0)
 	case name == "NA":
 		return failure(api.ENone)
-	case err != 0:
-		return failure(err)
 	case name == "AND" || name == "OR" || name == "NOT":
 		return modelTruths(name, vs)
+	case err != 0:
+		return failure(err)
 	}
 	if name == "ABS" {
 		n, err := value.Number(vs[0])

@@ -16,7 +16,7 @@ func Binary(op string, a, b api.Value) api.Value {
 	case "+", "-", "*", "/":
 		return calculate(op, a, b)
 	case "&":
-		return join([]api.Value{a, b})
+		return taken(value.Text, join)([]api.Value{a, b})
 	case "=", "<>", "<", "<=", ">", ">=":
 		return truth(holds(op, compare(a, b)))
 	}

@@ -1,6 +1,7 @@
 package builtin
 
 import (
+	"slices"
 	"strings"
 
 	"counterpane/api"
@@ -30,13 +31,23 @@ func singles(args []Arg) ([]api.Value, bool) {
 	return vs, true
 }
 
-// strict is f of values of which none is an error; else the least of them.
-func strict(f func(vs []api.Value) api.Value) func(vs []api.Value) api.Value {
+// taken is f of all values, each as a T. A value that is an error and one that is no T fail alike: the least of all failures is the answer.
+func taken[T any](as func(v api.Value) (T, int), f func(list []T) api.Value) func(vs []api.Value) api.Value {
 	return func(vs []api.Value) api.Value {
-		if err := value.Worst(vs...); err != 0 {
+		list := make([]T, 0, len(vs))
+		var failures []api.Value
+		for _, v := range vs {
+			x, err := as(v)
+			if err != 0 {
+				failures = append(failures, failure(err))
+				continue
+			}
+			list = append(list, x)
+		}
+		if err := value.Worst(failures...); err != 0 {
 			return failure(err)
 		}
-		return f(vs)
+		return f(list)
 	}
 }
 
@@ -53,64 +64,32 @@ func choose(vs []api.Value) api.Value {
 	return truth(false)
 }
 
-func allTrue(vs []api.Value) api.Value {
-	return truthUnless(vs, false)
+func allTrue(truths []bool) api.Value {
+	return truth(!slices.Contains(truths, false))
 }
 
-func someTrue(vs []api.Value) api.Value {
-	return truthUnless(vs, true)
+func someTrue(truths []bool) api.Value {
+	return truth(slices.Contains(truths, true))
 }
 
-// truthUnless is what decides, if it is among the truths; else the other truth.
-func truthUnless(vs []api.Value, decides bool) api.Value {
-	answer := !decides
-	for _, v := range vs {
-		b, err := value.Truth(v)
-		// Behind a truth that decides, too: all are looked at.
-		if err != 0 {
-			return failure(err)
-		}
-		if b == decides {
-			answer = decides
-		}
+func not(truths []bool) api.Value {
+	return truth(!truths[0])
+}
+
+func absolute(nums []api.Fix) api.Value {
+	if nums[0] < 0 {
+		return Neg(number(nums[0]))
 	}
-	return truth(answer)
+	return number(nums[0])
 }
 
-func not(vs []api.Value) api.Value {
-	b, err := value.Truth(vs[0])
-	if err != 0 {
-		return failure(err)
-	}
-	return truth(!b)
+func length(texts []string) api.Value {
+	return whole(len(texts[0]))
 }
 
-func absolute(vs []api.Value) api.Value {
-	n, err := value.Number(vs[0])
-	switch {
-	case err != 0:
-		return failure(err)
-	case n < 0:
-		return Neg(number(n))
-	}
-	return number(n)
-}
-
-func length(vs []api.Value) api.Value {
-	s, err := value.Text(vs[0])
-	if err != 0 {
-		return failure(err)
-	}
-	return whole(len(s))
-}
-
-func join(vs []api.Value) api.Value {
+func join(texts []string) api.Value {
 	var all strings.Builder
-	for _, v := range vs {
-		s, err := value.Text(v)
-		if err != 0 {
-			return failure(err)
-		}
+	for _, s := range texts {
 		if all.Len()+len(s) > api.MaxText {
 			return failure(api.EValue)
 		}
