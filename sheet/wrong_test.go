@@ -134,20 +134,37 @@ func TestNil(t *testing.T) {
 	}
 }
 
-// A Book that New did not make has no sheets, and is no less a workbook.
+// A Book that New did not make is as those that it makes are at first, whichever method is asked first.
 func TestZeroBook(t *testing.T) {
-	b := &Book{}
-	check(t, b, "")
-	check(t, b.Copy(), "")
-	if len(b.Used()) != 0 || !b.Eq(&Book{}) || !b.Copy().Eq(b) || b.Eq(New()) || New().Eq(b) {
-		t.Error("P0.1: a zero Book")
+	for what, same := range map[string]func(b *Book) bool{
+		"Sheets":     func(b *Book) bool { return slices.Equal(b.Sheets(), []string{first}) },
+		"Used":       func(b *Book) bool { return slices.Equal(b.Used(), []string{first}) },
+		"Name":       func(b *Book) bool { return b.Name(first) == "Sheet" },
+		"Cell":       func(b *Book) bool { return show.Cell(b.Cell(api.At{Sheet: first})) == "" },
+		"Format":     func(b *Book) bool { return b.Format(api.At{Sheet: first}) == 0 },
+		"Cells":      func(b *Book) bool { return len(b.Cells(first)) == 0 },
+		"Formats":    func(b *Book) bool { return len(b.Formats(first)) == 0 },
+		"Copy":       func(b *Book) bool { return told(b.Copy()) == "c0n0=Sheet{}" },
+		"Eq":         func(b *Book) bool { return b.Eq(New()) },
+		"Eq of it":   func(b *Book) bool { return New().Eq(b) },
+		"Eq of both": func(b *Book) bool { return b.Eq(&Book{}) },
+		"Stands":     func(b *Book) bool { return b.Stands(remove(first), add(other, "x")) && !b.Stands(add(first, "x")) },
+		"Apply":      func(b *Book) bool { return b.Apply(add(first, "x"), rename(first, "y"), rename(first, "Sheet")) == 2 },
+	} {
+		b := &Book{}
+		if !same(b) {
+			t.Errorf("P14.1: %s of a zero Book", what)
+		}
+		check(t, b, "c0n0=Sheet{}")
+		if !b.Eq(New()) || !slices.Equal(b.Used(), []string{first}) {
+			t.Errorf("P14.1: a zero Book behind %s", what)
+		}
 	}
-	apply(t, b, 0, set(first, 0, 0, "1"), remove(first), rows(first, ins(0)))
+	b := &Book{}
 	c := b.Copy()
-	apply(t, b, 2, add(other, "x"), set(other, 0, 0, "1"))
-	check(t, b, "c1n1=x{0,0:1;}")
-	apply(t, c, 2, add(first, "Sheet"), add(first, "x"), add(other, "x"))
-	check(t, c, "c0n0=Sheet{}c1n1=x{}")
+	apply(t, b, 3, set(first, 0, 0, "1"), remove(first), add(other, "x"), add(first, "x"))
+	check(t, b, "c1n1=x{}")
+	check(t, c, "c0n0=Sheet{}")
 }
 
 func TestEqOfOneThing(t *testing.T) {
