@@ -6,6 +6,7 @@ import (
 
 	"counterpane/a1"
 	"counterpane/api"
+	"counterpane/plane"
 )
 
 // line is one of all that there are: near the ends, and near the powers of two.
@@ -52,7 +53,7 @@ func (f far) refers(to api.At) bool {
 
 func checkFar(t *testing.T, g *Graph, l []far, more []api.At) {
 	t.Helper()
-	slices.SortFunc(l, func(a, b far) int { return inOrder(a.at, b.at) })
+	slices.SortFunc(l, func(a, b far) int { return plane.InOrder(a.at, b.at) })
 	ask := func(p api.At) {
 		var from, to []api.At
 		for _, f := range l {

@@ -4,14 +4,15 @@ import (
 	"container/heap"
 
 	"counterpane/api"
+	"counterpane/plane"
 )
 
 // schedule has the cells of a graph come one by one, each behind those of its From. If each cell waited for each other one by
 // itself, a column of sums over all that is above them would take the square of its length. So cells wait for boxes, boxes for
 // the few crowds that they hold, and these for their halves.
 type schedule struct {
-	crowds map[*crowd]*knot
-	boxes  map[box]*knot
+	crowds map[*plane.Crowd]*knot
+	boxes  map[plane.Box]*knot
 	cells  []*knot // those of the crowds of one cell
 	ready  queue   // the cells that might come next
 }
@@ -30,14 +31,14 @@ func (k *knot) waitFor(other *knot) {
 }
 
 func (g *Graph) schedule() *schedule {
-	s := &schedule{crowds: map[*crowd]*knot{}, boxes: map[box]*knot{}}
+	s := &schedule{crowds: map[*plane.Crowd]*knot{}, boxes: map[plane.Box]*knot{}}
 	for _, c := range g.crowds {
 		s.enter(c)
 	}
 	for _, k := range s.cells {
 		for _, b := range g.formulas[k.at] {
 			// A box without formulas never waited, and would be waited for in vain.
-			if held := s.box(b, g.crowds[b.sheet]); held.waits > 0 {
+			if held := s.box(b, g.crowds[b.Sheet]); held.waits > 0 {
 				k.waitFor(held)
 			}
 		}
@@ -46,25 +47,24 @@ func (g *Graph) schedule() *schedule {
 }
 
 // enter has c, and all crowds in it, wait for their halves.
-func (s *schedule) enter(c *crowd) *knot {
+func (s *schedule) enter(c *plane.Crowd) *knot {
 	k := &knot{}
 	s.crowds[c] = k
-	if c.alone() {
-		k.at, k.cell = c.around.first(), true
+	if k.at, k.cell = c.Alone(); k.cell {
 		s.cells = append(s.cells, k)
 		return k
 	}
-	for _, half := range c.halves {
+	for _, half := range c.Halves() {
 		k.waitFor(s.enter(half))
 	}
 	return k
 }
 
 // box is the knot of b, which is on the sheet of c (nil: no formula is there).
-func (s *schedule) box(b box, c *crowd) *knot {
+func (s *schedule) box(b plane.Box, c *plane.Crowd) *knot {
 	if s.boxes[b] == nil {
 		k := &knot{}
-		c.within([]box{b}, func(part *crowd) { k.waitFor(s.crowds[part]) })
+		c.Within([]plane.Box{b}, func(part *plane.Crowd) { k.waitFor(s.crowds[part]) })
 		s.boxes[b] = k
 	}
 	return s.boxes[b]
@@ -108,7 +108,7 @@ func (s *schedule) done(k *knot) {
 type queue []*knot
 
 func (q queue) Len() int           { return len(q) }
-func (q queue) Less(i, j int) bool { return inOrder(q[i].at, q[j].at) < 0 }
+func (q queue) Less(i, j int) bool { return plane.InOrder(q[i].at, q[j].at) < 0 }
 func (q queue) Swap(i, j int)      { q[i], q[j] = q[j], q[i] }
 func (q *queue) Push(k any)        { *q = append(*q, k.(*knot)) }
 

@@ -11,6 +11,7 @@ import (
 
 	"counterpane/api"
 	"counterpane/op"
+	"counterpane/plane"
 	"counterpane/sheet"
 	"counterpane/show"
 )
@@ -248,11 +249,13 @@ func TestTextsAreNew(t *testing.T) {
 	for at, bs := range g.formulas {
 		kept = append(kept, at.Sheet)
 		for _, b := range bs {
-			kept = append(kept, b.sheet)
+			kept = append(kept, b.Sheet)
 		}
 	}
 	for id, c := range g.crowds {
-		kept = append(kept, id, c.around.sheet)
+		c.Within([]plane.Box{plane.Between(id, 0, 0, last, last)}, func(part *plane.Crowd) {
+			part.Each(func(at api.At) { kept = append(kept, id, at.Sheet) })
+		})
 	}
 	for _, blocks := range g.index {
 		for block, from := range blocks {
